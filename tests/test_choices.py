@@ -26,6 +26,16 @@ class Against(unittest.TestCase):
         calls = ["begin 6 0 3 1", "set 0 2", "set 1 2", "set 2 2", "set 3 2", "set 4 2", "place 5"]
         self.assertEqual(ask(*calls, "next", "against", "past")[7:], [[3, 1, 2, 3], [2], [2, 5, 2]])
 
+    def test_most_moves_are_those_by_the_worst_choices(self):
+        # 00102, the two go to the one, some at a time: 00012, which takes one move more, or 00111,
+        # which takes one if both ends go at once, but two if they don't.
+        calls = ["begin 5 0 3 1", "set 0 2", "set 1 2", "set 7 2", "place 2"]
+        self.assertEqual(ask(*calls, "next", "run 60", "past")[5:], [[2, 1, 3], [3, 0, 1], [4, 2, 3, 1, 0]])
+        # 01011, one goes: 00102 takes two moves more; 00111 takes three, by way of 00102.
+        calls = ["begin 5 0 3 0", "set 0 2", "set 1 2", "set 2 2", "set 3 2", "set 4 1", "set 5 1", "place 4"]
+        self.assertEqual(ask(*calls, "next", "run 60", "past")[8:],
+                         [[2, 2, 3], [4, 0, 1], [5, 4, 3, 2, 1, 0]])
+
     def test_what_is_not_sure_is_chosen_first(self):
         # Both may go at once, and change places for ever; so 0011 isn't sure, though 0002 is at rest.
         calls = ["begin 4 0 2 1", "set 0 2", "place 1"]
@@ -75,6 +85,13 @@ class Help(unittest.TestCase):
     def test_the_first_of_those_that_take_as_few(self):
         calls = ["begin 4 0 3 1", "set 0 1", "set 1 2", "set 2 1", "set 4 1", "set 5 1", "place 1"]
         self.assertEqual(ask(*calls, "next", "help", "help")[7:], [[3, 1, 2, 3], [2], [0]])
+
+    def test_the_fewest_moves_are_those_by_the_best_choices(self):
+        # 001011 comes to 000102 or 000111: 000102 takes two moves more; 000111 three, or two by the best choice.
+        calls = ["begin 6 0 3 0", "set 0 2", "set 1 2", "set 2 2", "set 3 2", "set 4 2", "set 8 1", "place 5"]
+        self.assertEqual(ask(*calls, "next", "runhelped 60", "past")[8:],
+                         [[2, 2, 3], [3, 0, 1], [4, 5, 2, 1, 0]])
+        self.assertEqual(ask(*calls, "run 60", "past")[8:], [[4, 0, 1], [5, 5, 3, 2, 1, 0]])
 
     def test_those_that_never_can_are_behind_all_others(self):
         # 000011 is where they stay, apart; 000101 can meet at once; 001001 can in two moves.

@@ -49,7 +49,7 @@ class Sees(unittest.TestCase):
     def test_views_stand_in_the_order_of_the_places(self):
         # 001011 has robots at places 2, 4 and 5, who see 100110, 101001 and 100101.
         self.assertEqual(last("begin 6 2 3 0", "place 5", "sees"), [3, 6, 7, 5])
-        # 01011 has them at 1, 3 and 4, who see 10110, 11010 and 10101.
+        # 01011 has them at 1, 3 and 4, who see 10110, 10101 and 10101.
         self.assertEqual(last("begin 5 0 3 0", "place 4", "sees"), [2, 4, 3])
 
     def test_a_view_is_told_once(self):
