@@ -1,18 +1,20 @@
 """The interface: calls are read from one list, and answered in one."""
 
+from ringgather.finding_calls import call_allat, call_best, call_eyesenough, call_found, call_take, call_why
+from ringgather.gathering_calls import call_longest, call_rest, call_soonest, call_sure
+from ringgather.marking_calls import call_mark, call_markapart, call_marks, call_unmark
 from ringgather.moving_calls import call_against, call_back, call_go, call_helped, call_next
 from ringgather.moving_calls import call_past, call_run, call_runhelped
 from ringgather.refusals import not_begun
-from ringgather.rule_calls import call_rule, call_set
+from ringgather.rule_calls import call_good, call_ifset, call_rule, call_set
 from ringgather.seeing_calls import call_at, call_begin, call_name, call_names
-from ringgather.seeing_calls import call_place, call_ring, call_sees, call_view
+from ringgather.seeing_calls import call_place, call_ring, call_sees, call_told, call_view
 from ringgather.state import State
 from ringgather.told import counted
 
 BEGIN = 0
 
-# How many numbers each call has, by the call's own number: also of those that aren't answered
-# yet, as ahead of the first begin any call is refused, and the next one must be found behind it.
+# How many numbers each call has, by the call's own number.
 ARGUMENTS = (
     4, 1, 0, 1, 1, 0, 0, 1, 2, 0, 0, 1,
     0, 0, 1, 1, 0, 0, 0, 0, 0, 0, 1, 1,
@@ -26,9 +28,10 @@ def answerer_of(call):
         call_begin, call_at, call_names, call_name, call_place, call_ring,
         call_sees, call_view, call_set, call_rule, call_next, call_go,
         call_against, call_helped, call_run, call_runhelped, call_back, call_past,
+        call_rest, call_sure, call_longest, call_soonest, call_mark, call_unmark,
+        call_markapart, call_marks, call_good, call_ifset, call_found, call_take,
+        call_best, call_why, call_eyesenough, call_allat, call_told,
     )
-    if call >= len(answerers):
-        raise NotImplementedError(f"call {call} is not answered yet")
     return answerers[call]
 
 

@@ -61,3 +61,8 @@ def names_ahead(field, name, rule, moves):
         if is_move(gone, len(eager), moves):
             coming[field.name_numbers[ring]] = True
     return sorted(coming)
+
+
+def graph_by(field, rule, moves):
+    """Tell of each name which names may come of it by one move."""
+    return [names_ahead(field, name, rule, moves) for name in range(len(field.names))]

@@ -4,6 +4,13 @@ A graph is a list that tells of each name which names may come of it by one move
 a list that tells of each name whether the robots are at rest together in it.
 """
 
+from ringgather.rings import is_together
+
+
+def resting_in(names, graph):
+    """Tell of each name whether the robots are at rest together in it: nobody's eager if nothing may come."""
+    return [is_together(name) and not coming for name, coming in zip(names, graph)]
+
 
 def most_moves(graph, resting):
     """Tell of each name in how many moves at the most it gathers surely, or None if it doesn't."""
@@ -32,6 +39,12 @@ def fewest_moves(graph, resting):
                 grown = True
         moves += 1
     return fewest
+
+
+def sure_names(names, graph):
+    """List, rising, the names that gather surely."""
+    most = most_moves(graph, resting_in(names, graph))
+    return [name for name, moves in enumerate(most) if moves is not None]
 
 
 def against_them(coming, most):

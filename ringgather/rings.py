@@ -55,3 +55,8 @@ def names_of(places, robots):
 def is_together(ring):
     """Tell whether all robots are at one place."""
     return max(ring) == sum(ring)
+
+
+def is_apart(ring):
+    """Tell whether no two robots are at one place."""
+    return max(ring) == 1

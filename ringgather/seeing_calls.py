@@ -67,3 +67,9 @@ def call_view(state, numbers):
         return no_such()
     even = 1 if state.field.evens[view] else 0
     return [even] + list(state.field.views[view])
+
+
+def call_told(state, numbers):
+    """Tell how many places, which eyes, how many robots, how moves are, how many are marked, how many came."""
+    field = state.field
+    return [field.places, field.eyes, field.robots, state.moves, len(state.marked), len(state.past)]

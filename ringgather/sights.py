@@ -47,6 +47,9 @@ class Field:
     """
 
     def __init__(self, places, eyes, robots):
+        self.places = places
+        self.eyes = eyes
+        self.robots = robots
         self.names = names_of(places, robots)
         self.name_numbers = numbers_of_rings(self.names)
         self.sights = [sights_of(name, eyes) for name in self.names]

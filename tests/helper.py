@@ -4,7 +4,8 @@ The second telling keeps each robot by its own place and goes by the document's 
 it shares no step with the program.
 """
 
-from itertools import product
+from functools import lru_cache
+from itertools import combinations, product
 
 from ringgather.hall import answers
 
@@ -103,6 +104,7 @@ class Second:
         self.all_views = sorted(seen)
         self.told = {row: 0 for row in self.all_views}
         self.came = [0]
+        self.chosen = set()
         return len(self.all_views)
 
     def do_at(self, a):
@@ -243,6 +245,152 @@ class Second:
 
     def do_past(self):
         return [len(self.came)] + self.came
+
+    def worst(self, i, follow, played=()):
+        """Tell the moves of the longest play from the i-th name; None if one never ends, or not at rest."""
+        if i in played or not follow[i] and self.k not in self.all_names[i]:
+            return None
+        longest = 0
+        for j in follow[i]:
+            moves = self.worst(j, follow, played + (i,))
+            if moves is None:
+                return None
+            longest = max(longest, moves + 1)
+        return longest
+
+    def longest_plays(self):
+        names = range(len(self.all_names))
+        follow = [self.follow(i) for i in names]
+        return [self.worst(i, follow) for i in names]
+
+    def sure_ones(self):
+        return {i for i, moves in enumerate(self.longest_plays()) if moves is not None}
+
+    def do_rest(self):
+        return int(self.is_rest(self.came[-1]))
+
+    def do_sure(self):
+        return int(self.came[-1] in self.sure_ones())
+
+    def do_longest(self):
+        moves = self.longest_plays()[self.came[-1]]
+        return -33 if moves is None else moves
+
+    def do_soonest(self):
+        reached = {self.came[-1]}
+        for moves in range(len(self.all_names)):
+            if any(self.is_rest(i) for i in reached):
+                return moves
+            reached = {j for i in reached for j in self.follow(i)}
+        return -33
+
+    def do_mark(self, i):
+        if i >= len(self.all_names):
+            return -2
+        if i in self.chosen:
+            return -17
+        self.chosen.add(i)
+        return len(self.chosen)
+
+    def do_unmark(self, i):
+        if i >= len(self.all_names):
+            return -2
+        if i not in self.chosen:
+            return -6
+        self.chosen.remove(i)
+        return len(self.chosen)
+
+    def do_markapart(self):
+        self.chosen = {i for i, ring in enumerate(self.all_names) if ring.count(0) == self.n - self.k}
+        return len(self.chosen)
+
+    def do_marks(self):
+        return [len(self.chosen)] + sorted(self.chosen)
+
+    def do_good(self):
+        return [len(self.chosen & self.sure_ones()), len(self.chosen)]
+
+    def do_ifset(self, v, m):
+        kept = dict(self.told)
+        was = self.do_set(v, m)
+        would = len(self.chosen & self.sure_ones())
+        self.told = kept
+        return was if was < 0 else [would, self.do_good()[0]]
+
+    def too_many(self, e):
+        return len(every_rule(self.n, e, self.k, 6001)) > 6000
+
+    def good_ones(self, e, a):
+        """List the rules that gather all marked names, with such eyes and moves."""
+        return [rule for rule, sure in tried(self.n, e, self.k, a) if self.chosen <= sure]
+
+    def do_found(self):
+        if self.too_many(self.e):
+            return -28
+        good = self.good_ones(self.e, self.a)
+        return [len(good[0])] + list(good[0]) if good else -33
+
+    def do_take(self):
+        found = self.do_found()
+        if isinstance(found, int):
+            return found
+        self.told = dict(zip(self.all_views, found[1:]))
+        return 0
+
+    def do_best(self):
+        if self.too_many(self.e):
+            return -28
+        best = max(tried(self.n, self.e, self.k, self.a), key=lambda trial: len(self.chosen & trial[1]))
+        return [len(self.chosen & best[1])] + list(best[0])
+
+    def do_why(self):
+        if self.too_many(self.e):
+            return -28
+        kinds = {sure for rule, sure in tried(self.n, self.e, self.k, self.a)}
+        for size in range(len(self.chosen) + 1):
+            for group in combinations(sorted(self.chosen), size):
+                if not any(sure.issuperset(group) for sure in kinds):
+                    return [size] + list(group)
+        return -6
+
+    def do_eyesenough(self):
+        if any(self.too_many(e) for e in range(3)):
+            return -28
+        return max([e for e in range(3) if self.good_ones(e, self.a)], default=-33)
+
+    def do_allat(self):
+        if self.too_many(self.e):
+            return -28
+        return [len(self.good_ones(self.e, a)) for a in range(3)]
+
+    def do_told(self):
+        return [self.n, self.e, self.k, self.a, len(self.chosen), len(self.came)]
+
+
+@lru_cache(None)
+def every_rule(n, e, k, most):
+    """List the rules in order; no more than the first so many."""
+    told = Second()
+    told.do_begin(n, e, k, 0)
+    rules = []
+    for rule in product(range(3), repeat=len(told.all_views)):
+        if all(done < 2 or not told.is_even(row) for done, row in zip(rule, told.all_views)):
+            rules.append(rule)
+            if len(rules) == most:
+                break
+    return rules
+
+
+@lru_cache(None)
+def tried(n, e, k, a):
+    """List each rule, in order, with the names that gather surely by it."""
+    told = Second()
+    told.do_begin(n, e, k, a)
+    trials = []
+    for rule in every_rule(n, e, k, 6001):
+        told.told = dict(zip(told.all_views, rule))
+        trials.append((rule, frozenset(told.sure_ones())))
+    return trials
 
 
 def second(*calls):

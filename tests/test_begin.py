@@ -4,7 +4,7 @@ import unittest
 
 from tests.helper import ARGUMENTS, GREATEST, NUMBERS, ask, last
 
-PROBES = ("names", "rule", "ring", "past", "next", "sees", "at 0")
+PROBES = ("names", "rule", "ring", "past", "next", "sees", "marks", "told", "good", "sure", "best", "at 0")
 
 
 class AheadOfBegin(unittest.TestCase):
@@ -18,7 +18,8 @@ class AheadOfBegin(unittest.TestCase):
                     self.assertEqual(ask(call, "begin 4 0 2 0"), [[-11], [3]])
 
     def test_it_comes_ahead_of_all_other_refusals(self):
-        calls = ["at 3", "name 99", "place 99", "view 99", "set 99 9", "go 99", "run 61", "runhelped 61", "back"]
+        calls = ["at 3", "name 99", "place 99", "view 99", "set 99 9", "go 99", "run 61", "runhelped 61", "back",
+                 "mark 99", "unmark 99", "ifset 99 9", "longest", "soonest", "why", "take"]
         self.assertEqual(ask(*calls), [[-11]] * len(calls))
 
     def test_a_refused_begin_is_none(self):
@@ -64,15 +65,16 @@ class Begin(unittest.TestCase):
                          [[9], [9] + [0] * 9, [0, 0, 0, 0, 0, 3], [1, 0], [0], [-6]])
 
     def test_a_second_begin_starts_anew(self):
-        played = ["begin 4 0 2 0", "set 2 1", "against", "at 1", "past"]
+        played = ["begin 4 0 2 0", "set 2 1", "against", "at 1", "mark 2", "allat", "past"]
         self.assertEqual(ask(*played)[-1], [2, 0, 1])
         again = ask(*played, "begin 5 2 3 2", *PROBES)[len(played):]
-        self.assertEqual(again, [[7], [5], [7] + [0] * 7, [0, 0, 0, 0, 0, 3], [1, 0], [0], [1, 0], [2]])
+        self.assertEqual(again, [[7], [5], [7] + [0] * 7, [0, 0, 0, 0, 0, 3], [1, 0], [0], [1, 0], [0],
+                                 [5, 2, 3, 2, 0, 1], [0, 0], [1], [0] * 8, [2]])
         same = ask(*played, "begin 4 0 2 0", *PROBES)[len(played):]
         self.assertEqual(same, ask("begin 4 0 2 0", *PROBES))
 
     def test_a_refused_begin_leaves_all_as_it_was(self):
-        played = ["begin 4 0 2 1", "set 2 1", "set 0 2", "against", "go 0"]
+        played = ["begin 4 0 2 1", "set 2 1", "set 0 2", "against", "go 0", "mark 2"]
         for refused in ("begin 2 0 1 0", "begin 8 0 1 0", "begin 3 3 1 0", "begin 3 0 0 0", "begin 3 0 4 0",
                         "begin 3 0 1 3", f"begin {GREATEST} 0 1 0"):
             with self.subTest(refused):

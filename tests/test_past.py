@@ -21,7 +21,8 @@ class Back(unittest.TestCase):
         self.assertEqual(ask(*calls)[6:], [[2], [-6], [1, 2]])
 
     def test_a_move_taken_back_leaves_what_was(self):
-        probes = ["ring", "past", "next", "sees", "rule", "at 0"]
+        probes = ["ring", "past", "next", "sees", "rule", "told", "marks", "good", "rest", "sure", "longest", "soonest",
+                  "at 0"]
         for move in ("go 1", "against", "help", "run 1", "runhelped 1"):
             with self.subTest(move):
                 self.assertEqual(ask(*ROUND, move, "back", *probes)[6:], ask(*ROUND, *probes)[4:])
