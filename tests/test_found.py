@@ -3,6 +3,8 @@
 import unittest
 from itertools import combinations
 
+from ringgather.finding_calls import call_eyesenough
+from ringgather.state import State
 from ringgather.trials import Trial, fewest_hopeless
 from tests.helper import ask, last
 
@@ -75,6 +77,16 @@ class Searches(unittest.TestCase):
         for eyes in range(3):
             for moves, answer in ((0, [1]), (1, [-33]), (2, [-33])):
                 self.assertEqual(last(f"begin 3 {eyes} 3 {moves}", "mark 2", "eyesenough"), answer)
+
+    def test_the_best_eyes_are_asked_too(self):
+        # On no ring with few enough rules are eyes 0 needed; so the trials are made up.
+        for enough in range(3):
+            state = State()
+            state.begin(3, 2, 3, 0)
+            state.marked = [1]
+            for eyes in range(3):
+                state.tried[(3, eyes, 3, 0)] = [Trial((1,) if eyes <= enough else (0,), (0, 0, 0))]
+            self.assertEqual(call_eyesenough(state, []), [enough])
 
     def test_the_first_good_rule_is_less_at_the_first_view_where_two_differ(self):
         # 012, all go: the two go to the one who stays, all go to the third place, or the one goes to the two.
